@@ -157,6 +157,10 @@ func call2[T, U any](x T, y U, ok bool) []any {
 	return results(x, y, ok)
 }
 
+func call3[T, U, V any](x T, y U, z V, ok bool) []any {
+	return results(x, y, z, ok)
+}
+
 // callsOfGrid are all functions with a grid.
 func callsOfGrid(g impl.Grid, field []float32, list []impl.Particle, at complex64) []badCall {
 	return []badCall{
