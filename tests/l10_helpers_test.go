@@ -11,8 +11,8 @@ import (
 	"loop.example/g01226/impl"
 )
 
-// bytesOfCloud are the bytes of a cloud of any numbers, also one that is not
-// valid. The least 32 bits of numbers of all kinds are there.
+// bytesOfCloud are the bytes that a cloud would have, also one that is not
+// valid, with the bits of not-a-numbers as they are.
 func bytesOfCloud(c impl.Cloud) string {
 	data := []byte{'C', 'L', 'D', '1', byte(c.Grid.Wide), byte(c.Grid.High)}
 	for i, x := range numbersOfCloud(c) {
@@ -93,7 +93,7 @@ func wantRecovered(t *testing.T, what, text string, want impl.Shots, bytes int) 
 	wantEqual(t, what+", how many bytes", intact, int64(bytes))
 }
 
-// shots have clouds of gentle numbers that are all of one grid.
+// shots have clouds of all kinds of numbers, all of them on one grid.
 func (s source) shots(counts ...int) impl.Shots {
 	var shots impl.Shots
 	g := s.grid()

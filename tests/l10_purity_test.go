@@ -75,9 +75,9 @@ func oddShots() []shotArguments {
 
 // keptShots are the wholes of lists with room behind them.
 type keptShots struct {
-	clouds, others    []impl.Cloud
-	particles, otherP [][]impl.Particle
-	list              []impl.Particle
+	clouds, others        []impl.Cloud
+	particles, otherLists [][]impl.Particle
+	list                  []impl.Particle
 }
 
 // keepClouds gives a list of clouds, and each list of particles, some room.
@@ -95,7 +95,7 @@ func keepClouds(s *impl.Shots) (whole []impl.Cloud, lists [][]impl.Particle) {
 func keepShots(a *shotArguments) keptShots {
 	var k keptShots
 	k.clouds, k.particles = keepClouds(&a.s)
-	k.others, k.otherP = keepClouds(&a.other)
+	k.others, k.otherLists = keepClouds(&a.other)
 	a.list, k.list = withRoom(a.list, impl.Particle{At: 7, Speed: 8, Charge: 9, Mass: 10})
 	if len(a.s.Clouds) > 0 {
 		a.c, a.d = a.s.Clouds[0], a.s.Clouds[len(a.s.Clouds)-1]
@@ -112,7 +112,7 @@ func copyOfLists(lists [][]impl.Particle) [][]impl.Particle {
 }
 
 func (k keptShots) clone() keptShots {
-	return keptShots{copyOfShots(shotsOf(k.clouds...)).Clouds, copyOfShots(shotsOf(k.others...)).Clouds, copyOfLists(k.particles), copyOfLists(k.otherP), slices.Clone(k.list)}
+	return keptShots{copyOfShots(shotsOf(k.clouds...)).Clouds, copyOfShots(shotsOf(k.others...)).Clouds, copyOfLists(k.particles), copyOfLists(k.otherLists), slices.Clone(k.list)}
 }
 
 func (k keptShots) equals(other keptShots) bool {
@@ -122,7 +122,7 @@ func (k keptShots) equals(other keptShots) bool {
 		})
 	}
 	return clouds(k.clouds, other.clouds) && clouds(k.others, other.others) && slices.EqualFunc(k.particles, other.particles, equalParticleBits) &&
-		slices.EqualFunc(k.otherP, other.otherP, equalParticleBits) && equalParticleBits(k.list, other.list)
+		slices.EqualFunc(k.otherLists, other.otherLists, equalParticleBits) && equalParticleBits(k.list, other.list)
 }
 
 // Every function returns the same for the same numbers, valid or not, in any
