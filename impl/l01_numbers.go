@@ -380,22 +380,22 @@ func PowersOf(list []complex64) (float32, bool) {
 
 // NumbersText returns the text of numbers.
 func NumbersText(list []float32) (string, bool) {
-	return joinTexts(list, MaxNumbers, numberText)
+	return joinTexts(list, MaxNumbers, between, numberText)
 }
 
 // ReadNumbers returns the numbers with the given text.
 func ReadNumbers(s string) ([]float32, bool) {
-	return readTexts(s, MaxNumbers, readNumber)
+	return readTexts(s, MaxNumbers, between, readNumber)
 }
 
 // ComplexText returns the text of complex numbers.
 func ComplexText(list []complex64) (string, bool) {
-	return joinTexts(list, MaxNumbers, complexText)
+	return joinTexts(list, MaxNumbers, between, complexText)
 }
 
 // ReadComplex returns the complex numbers with the given text.
 func ReadComplex(s string) ([]complex64, bool) {
-	return readTexts(s, MaxNumbers, readComplexNumber)
+	return readTexts(s, MaxNumbers, between, readComplexNumber)
 }
 
 func numberText(x float32) string {
@@ -427,7 +427,7 @@ func readComplexNumber(word string) (complex64, bool) {
 	return complex(a, b), aRead && bRead
 }
 
-func joinTexts[T any](list []T, most int, textOf func(x T) string) (string, bool) {
+func joinTexts[T any](list []T, most int, separator string, textOf func(x T) string) (string, bool) {
 	if len(list) > most {
 		return "", false
 	}
@@ -438,19 +438,19 @@ func joinTexts[T any](list []T, most int, textOf func(x T) string) (string, bool
 	for i, x := range list {
 		words[i] = textOf(x)
 	}
-	return strings.Join(words, between), true
+	return strings.Join(words, separator), true
 }
 
 // readTexts counts the words first, so that a long text takes no memory.
-func readTexts[T any](s string, most int, read func(word string) (T, bool)) ([]T, bool) {
+func readTexts[T any](s string, most int, separator string, read func(word string) (T, bool)) ([]T, bool) {
 	if s == emptyList {
 		return nil, true
 	}
-	if strings.Count(s, between) >= most {
+	if strings.Count(s, separator) >= most {
 		return nil, false
 	}
 	var list []T
-	for _, word := range strings.Split(s, between) {
+	for _, word := range strings.Split(s, separator) {
 		x, ok := read(word)
 		if !ok {
 			return nil, false
@@ -498,12 +498,12 @@ func ListText(list []int64) (string, bool) {
 			return "", false
 		}
 	}
-	return joinTexts(list, MaxItems, Decimal)
+	return joinTexts(list, MaxItems, between, Decimal)
 }
 
 // ReadList returns the list of integers with the given text.
 func ReadList(s string) ([]int64, bool) {
-	return readTexts(s, MaxItems, ReadDecimal)
+	return readTexts(s, MaxItems, between, ReadDecimal)
 }
 
 // CheckOf returns the check number of a text that begins with start.

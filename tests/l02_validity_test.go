@@ -134,7 +134,7 @@ type badCall struct {
 // wantFailures tells whether all results are zero values, the last one false.
 func wantFailures(t *testing.T, calls []badCall) {
 	t.Helper()
-	zeros := []string{"0", "(0+0i)", "[]", "{0 0}", "{(0+0i) (0+0i) 0 0}", "{(0+0i) 0 0}", "{{0 0} [] 0 0}", "{[]}", "false"}
+	zeros := []string{"", "0", "(0+0i)", "[]", "{0 0}", "{(0+0i) (0+0i) 0 0}", "{(0+0i) 0 0}", "{{0 0} [] 0 0}", "{[]}", "false"}
 	for _, c := range calls {
 		for i, x := range c.results {
 			last := i == len(c.results)-1
